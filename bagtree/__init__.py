@@ -1,0 +1,1 @@
+"""Bagtree: webs laid out in bags on a tree."""
