@@ -1,7 +1,7 @@
 """Layouts: bags of points of a web, linked into a tree."""
 
 from bagtree.errors import BadLayout
-from bagtree.webs import is_pair, is_rising, need_web, neighbours, parts
+from bagtree.webs import is_one, is_pair, is_rising, need_web, neighbours
 
 
 def is_layout(many, ties, thing):
@@ -52,8 +52,3 @@ def is_joined(many, bags, links):
         if not is_one(near, [at for at, bag in enumerate(bags) if point in bag]):
             return False
     return True
-
-
-def is_one(near, left):
-    """Tell whether the numbers in left are one part by near; no numbers are none."""
-    return len(parts(near, left)) == 1

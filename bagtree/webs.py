@@ -94,6 +94,11 @@ def parts(near, left):
     return found
 
 
+def is_one(near, left):
+    """Tell whether the numbers in left are one part by near; no numbers are none."""
+    return len(parts(near, left)) == 1
+
+
 def part_around(near, inside, start):
     """List, rising, the numbers that are reached from start by near, over keys of inside alone."""
     seen = {start}

@@ -20,3 +20,25 @@ def refuses(case, error, function, *handed):
     with case.assertRaises(error):
         function(*handed)
     case.assertEqual(plain(handed), before)
+
+
+def lists_in(told):
+    """All lists in what was told, the outermost one first."""
+    found = [told] if isinstance(told, list) else []
+    if isinstance(told, (list, tuple)):
+        for thing in told:
+            found += lists_in(thing)
+    return found
+
+
+def are_own(case, *things):
+    """Look that no list stands in two places of what was told and handed in."""
+    lists = lists_in(things)
+    case.assertEqual(len({id(one) for one in lists}), len(lists), things)
+
+
+def spoil(told):
+    """Change every list in what was told."""
+    for one in lists_in(told):
+        one.append("spoilt")
+        one.reverse()

@@ -55,13 +55,13 @@ class TestLanguage(unittest.TestCase):
         for name, tree in trees():
             for node in ast.walk(tree):
                 with self.subTest(file=name, line=getattr(node, "lineno", 0)):
-                    if isinstance(node, ast.Name) and hasattr(builtins, node.id):
+                    if isinstance(node, ast.Name) and node.id in vars(builtins):
                         self.assertIn(node.id, BUILTINS)
                         self.assertIsInstance(node.ctx, ast.Load)
                     if isinstance(node, (ast.FunctionDef, ast.ClassDef)):
-                        self.assertFalse(hasattr(builtins, node.name))
+                        self.assertNotIn(node.name, vars(builtins))
                     if isinstance(node, ast.arg):
-                        self.assertFalse(hasattr(builtins, node.arg))
+                        self.assertNotIn(node.arg, vars(builtins))
 
 
 if __name__ == "__main__":
