@@ -87,11 +87,11 @@ def close(pockets, most, closed, given):
     wider = {pocket: True for pocket in closed}
     wider[given] = True
     for pocket in pockets.rims:
-        if pocket & given == given and pocket not in wider and pockets.is_closed(pocket, most, wider):
+        if (pocket & given) == given and pocket not in wider and pockets.is_closed(pocket, most, wider):
             wider[pocket] = True
     return wider
 
 
 def holds_one(pocket, others):
     """Tell whether one of the other pockets lies inside the pocket."""
-    return any([pocket & other == other for other in others])
+    return any([(pocket & other) == other for other in others])

@@ -57,4 +57,4 @@ def hits(points, masks):
 
 def meets(one, other):
     """Tell whether two masks share a point."""
-    return one & other != 0
+    return (one & other) != 0

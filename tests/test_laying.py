@@ -48,6 +48,10 @@ OCTAHEDRON = (6, [tie for tie in all_ties(6) if tie[1] - tie[0] != 3])
 # Webs of several pieces, of which a later one, or an earlier one, is the widest.
 PARTED = (9, [(0, 8), (1, 2), (1, 3), (2, 3), (4, 5), (4, 6), (4, 7), (5, 6), (5, 7), (6, 7)])
 PARTED_TOO = (9, [(0, 1), (0, 2), (0, 3), (1, 2), (1, 3), (2, 3), (4, 6), (6, 8), (4, 8)])
+# A web in which not all that is around a piece of a thicket may go into the thicket, too.
+TANGLE = (7, [
+    (0, 1), (0, 2), (0, 3), (0, 4), (0, 5), (1, 3), (1, 6), (2, 4), (2, 5), (2, 6), (3, 6), (4, 5),
+])
 
 # With the least width of the layouts of each.
 KNOWN = (
@@ -59,6 +63,7 @@ KNOWN = (
     + [((many, all_ties(many)[:-1]), many - 1) for many in range(2, 11)]
     + [(two_sides(low, 10 - low), low + 1) for low in range(1, 6)]
     + [(grid(2, 5), 3), (grid(3, 3), 4), (PETERSEN, 5), (CUBE, 4), (OCTAHEDRON, 5), (PARTED, 4), (PARTED_TOO, 4)]
+    + [(TANGLE, 4)]
 )
 
 
